@@ -291,32 +291,13 @@ func TestAddrTextsThatAreNone(t *testing.T) {
 // Each text with a byte turned, put in or taken out is read just where it has the right shape, and comes back.
 func TestTurnedAddrTexts(t *testing.T) {
 	for _, text := range []string{"a.b", "disk.a[0]", "d.a[99]", "m/d.a[x]", "m/n/d.a", word8 + "." + word8 + "[" + word8 + "]"} {
-		for i := range len(text) {
-			checkShape(t, text[:i]+text[i+1:])
-			for b := range 256 {
-				one := string([]byte{byte(b)})
-				checkShape(t, text[:i]+one+text[i:])
-				checkShape(t, text[:i]+one+text[i+1:])
-				checkShape(t, text+one)
-			}
-		}
+		checkTurned(t, text, eachByte(), checkShape)
 	}
 }
 
 // All texts of a few bytes that stand in addresses.
 func TestShortAddrTexts(t *testing.T) {
-	level := []string{""}
-	for range 5 {
-		var next []string
-		for _, text := range level {
-			for _, b := range "a.[]/10" {
-				next = append(next, text+string(b))
-				checkShape(t, text+string(b))
-			}
-		}
-		level = next
-	}
-	for _, text := range level {
+	for _, text := range checkShort(t, strings.Split("a.[]/10", ""), 5, checkShape) {
 		checkShape(t, "a.a"+text)
 	}
 }
