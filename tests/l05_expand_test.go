@@ -65,18 +65,18 @@ func wantExpand(t *testing.T, what string, got impl.ExpandOut, want impl.ExpandO
 
 // thingLines are the things that are told, a line each.
 func thingLines(l []impl.Thing) string {
-	text := ""
+	var text strings.Builder
 	for _, x := range l {
-		text += impl.AddrText(x.Addr)
+		text.WriteString(impl.AddrText(x.Addr))
 		for _, p := range x.Pairs {
-			text += " " + p.Name + "=" + impl.ValueText(p.Value)
+			text.WriteString(" " + p.Name + "=" + impl.ValueText(p.Value))
 		}
 		for _, need := range x.Needs {
-			text += " <" + impl.AddrText(need)
+			text.WriteString(" <" + impl.AddrText(need))
 		}
-		text += "\n"
+		text.WriteString("\n")
 	}
-	return text
+	return text.String()
 }
 
 func orderLine(l []impl.Addr) string {
